@@ -1,0 +1,1 @@
+"""Gapbench: a text with a gap where the hand is."""
